@@ -20,6 +20,16 @@ def leading_to(led, place):
     return [a for a, b in led if b == place]
 
 
+def leads_on(led, one, other):
+    """Whether a way leads from one place to another one by a list of arrows."""
+    found = [one]
+    at = 0
+    while at < len(found):
+        found.extend([b for a, b in led if a == found[at] and b not in found])
+        at += 1
+    return other in found
+
+
 def is_round(web, pointing, thing):
     """Whether a thing is a round of a pointing."""
     if not is_circle(web, thing):

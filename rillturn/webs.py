@@ -104,15 +104,20 @@ def drawn(web, a, b):
     return (many - 1, tuple(sorted({tie_of(one, other) for one, other in pairs if one != other})))
 
 
+def with_tie(web, a, b):
+    """The web with the tie of a and b more, which are not tied; it may have any count of ties."""
+    many, ties = web
+    return (many, tuple(sorted(ties + (tie_of(a, b),))))
+
+
 def tied(web, a, b):
     """The web with the tie of a and b more: There, then TooMany."""
-    many, ties = web
-    tie = tie_of(a, b)
-    if tie in ties:
+    ties = web[1]
+    if tie_of(a, b) in ties:
         raise There(f"{a} and {b} are tied")
     if len(ties) >= MOST_TIES:
         raise TooMany(f"there are {len(ties)} ties")
-    return (many, tuple(sorted(ties + (tie,))))
+    return with_tie(web, a, b)
 
 
 def untied(web, a, b):

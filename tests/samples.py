@@ -13,6 +13,22 @@ NINE_RING = (9, ((0, 1), (0, 8), (1, 2), (2, 3), (3, 4), (4, 5), (5, 6), (6, 7),
 ALL_NINE_PAIRS = tuple(itertools.combinations(range(9), 2))
 TWENTY = (9, ALL_NINE_PAIRS[:20])
 NINETEEN = (9, ALL_NINE_PAIRS[:19])
+TWO = (2, ((0, 1),))
+FIVE_RING = (5, ((0, 1), (0, 4), (1, 2), (2, 3), (3, 4)))
+# A ring of five with a place in the midst: no four are a crowd, but three hues don't do.
+WHEEL = (6, ((0, 1), (0, 4), (0, 5), (1, 2), (1, 5), (2, 3), (2, 5), (3, 4), (3, 5), (4, 5)))
+SPINDLE = (7, ((0, 1), (0, 2), (0, 3), (0, 4), (1, 2), (1, 5), (2, 5), (3, 4), (3, 6), (4, 6), (5, 6)))
+# The crowd of six lies at the last places; 0 and 2 are one more piece, 1 is tied to the crowd.
+SIX_CROWD = (9, ((0, 2), (1, 8)) + tuple(itertools.combinations(range(3, 9), 2)))
+# As many ties as may be, among all nine places.
+TWENTY_MIXED = (9, (
+    (0, 1), (0, 4), (0, 6), (0, 8), (1, 2), (1, 5), (1, 7), (2, 3), (2, 6), (2, 8), (3, 4), (3, 5), (3, 7), (4, 5),
+    (4, 6), (4, 8), (5, 6), (5, 8), (6, 7), (7, 8),
+))
+NAMED_WEBS = [
+    BARE, TWO, TRIANGLE, SQUARE, PATH, THREE_PIECES, NINE_ALONE, NINE_RING, NINETEEN, TWENTY, FIVE_RING, WHEEL, SPINDLE,
+    SIX_CROWD, TWENTY_MIXED,
+]
 
 # One of each kind that may be handed to a function is_.., none a tuple of places.
 OTHER_KINDS = [
@@ -113,3 +129,51 @@ def slow_ways(web, fall):
     for way in ways:
         ways.extend(way + [b] for a, b in sorted(pairs) if a == way[-1])
     return ways
+
+
+def is_fall(web, pointing):
+    return slow_first_order(web, pointing) is not None
+
+
+def slow_falls(web):
+    """All falls, in Python's order, found among all pointings."""
+    return [pointing for pointing in all_pointings(web) if is_fall(web, pointing)]
+
+
+def flipped(pointing, at):
+    return pointing[:at] + (1 - pointing[at],) + pointing[at + 1:]
+
+
+def some_falls(web, count, seed):
+    """All falls of a small web, some of another one."""
+    return slow_falls(web) if len(web[1]) <= 6 else mixed_falls(web, count, seed)
+
+
+def slow_has_hues(web, k):
+    """Whether some of all tuples with numbers from 0 to k - 1 has unlike ones at tied places."""
+    rows = itertools.product(range(k), repeat=web[0])
+    return any(all(row[a] != row[b] for a, b in web[1]) for row in rows)
+
+
+def slow_paper(web, k, paper, groups=None, more=()):
+    """Whether a paper is one of k for a web, whose places stand for groups of the first web's places."""
+    if groups is None:
+        groups = [[place] for place in range(web[0])]
+
+    def are_tied(a, b):
+        pairs = {(x, y) for x in groups[a] for y in groups[b]} | {(y, x) for x in groups[a] for y in groups[b]}
+        return any(pair in web[1] or pair in more for pair in pairs)
+
+    numbers = range(len(groups))
+    if paper[0] == "crowd":
+        crowd = paper[1]
+        if len(crowd) != k or any(place not in numbers for place in crowd) or list(crowd) != sorted(set(crowd)):
+            return False
+        return all(are_tied(a, b) for a, b in itertools.combinations(crowd, 2))
+    word, a, b, one, other = paper
+    if a not in numbers or b not in numbers or a >= b or are_tied(a, b):
+        return False
+    joined = [group + groups[b] if at == a else group for at, group in enumerate(groups) if at != b]
+    if not slow_paper(web, k, one, joined, more):
+        return False
+    return slow_paper(web, k, other, groups, more + ((groups[a][0], groups[b][0]),))

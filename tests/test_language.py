@@ -36,8 +36,9 @@ class Language(unittest.TestCase):
     def test_the_files(self):
         names = [path.name for path in PACKAGE.iterdir() if path.name != "__pycache__"]
         self.assertEqual(sorted(names), [path.name for path in FILES])
-        for name in ["__init__.py", "errors.py", "webs.py", "pointings.py", "heights.py"]:
-            self.assertIn(name, names)
+        wanted = ["__init__", "errors", "webs", "pointings", "heights", "hues", "fewest", "turning", "springs"]
+        for name in wanted:
+            self.assertIn(name + ".py", names)
 
     def test_sizes_and_signs(self):
         for path in FILES:
