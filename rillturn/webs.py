@@ -1,6 +1,6 @@
 """Webs: places that are tied two by two, their pieces and rings, and the webs made of them."""
 
-from rillturn.errors import NoTie, There, TooMany
+from rillturn.errors import Apart, NoTie, There, TooMany
 
 MOST_PLACES = 9
 MOST_TIES = 20
@@ -69,6 +69,29 @@ def pieces(web):
         if piece[0] == place:
             told.append(piece)
     return told
+
+
+def refuse_apart(web):
+    """Apart, where a web is not in one piece."""
+    if len(piece_of(web, 0)) < web[0]:
+        raise Apart("the web is in several pieces")
+
+
+def way_between(ties, one, other):
+    """A shortest list of places from one to another one along ties, or None where none leads there."""
+    ways = [[one]]
+    met = [one]
+    at = 0
+    while at < len(ways):
+        way = ways[at]
+        if way[-1] == other:
+            return way
+        nearby = [a if b == way[-1] else b for a, b in ties if way[-1] in (a, b)]
+        unmet = [place for place in nearby if place not in met]
+        ways.extend([way + [place] for place in unmet])
+        met.extend(unmet)
+        at += 1
+    return None
 
 
 def is_circle(web, thing):

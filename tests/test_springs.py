@@ -7,8 +7,8 @@ from rillturn.errors import NoMouth, NoSpring
 from rillturn.pointings import is_pointing
 from rillturn.springs import mouths, springs, turn_mouth, turn_spring
 from tests.samples import (
-    BARE, NAMED_WEBS, NINE_ALONE, NINE_RING, PATH, SQUARE, THREE_PIECES, TRIANGLE, TWENTY, TWO, flipped, is_fall, leads,
-    mixed_falls, mixed_webs, slow_falls, small_webs,
+    BARE, NAMED_WEBS, NINE_ALONE, NINE_RING, PATH, SQUARE, THREE_PIECES, TRIANGLE, TWENTY, TWO, is_fall, mixed_falls,
+    mixed_webs, slow_falls, slow_mouths, slow_springs, slow_turned, small_webs,
 )
 
 
@@ -17,21 +17,6 @@ def web_falls():
     pairs = [(web, fall) for web in small_webs(4) for fall in slow_falls(web)]
     pairs += [(web, fall) for web in NAMED_WEBS + mixed_webs(60, 71) for fall in mixed_falls(web, 4, 72)]
     return pairs
-
-
-def slow_springs(web, fall):
-    return tuple(place for place in range(web[0]) if all(b != place for a, b in leads(web, fall)))
-
-
-def slow_mouths(web, fall):
-    return tuple(place for place in range(web[0]) if all(a != place for a, b in leads(web, fall)))
-
-
-def slow_turned(web, fall, place):
-    for k, tie in enumerate(web[1]):
-        if place in tie:
-            fall = flipped(fall, k)
-    return fall
 
 
 class SpringsAndMouths(unittest.TestCase):

@@ -11,7 +11,7 @@ from rillturn.webs import pieces
 from tests.samples import (
     BARE, FIVE_RING, NAMED_WEBS, NINE_ALONE, NINE_RING, NINETEEN, PATH, SPINDLE, SQUARE, THREE_PIECES, TRIANGLE, TWENTY,
     TWENTY_MIXED, TWO, WHEEL, all_pointings, flipped, is_fall, leads, mixed_falls, mixed_pointings, mixed_webs,
-    numbers_from, slow_falls, slow_ways, small_webs, some_falls,
+    numbers_from, slow_fall_count, slow_falls, slow_ways, small_webs, some_falls,
 )
 
 ODD_NUMBERS = [-(10 ** 18), -21, -20, -2, -1, 20, 21, 36, 10 ** 18]
@@ -33,18 +33,6 @@ def slow_road(web, one, other, row):
         if not is_fall(web, one):
             return False
     return one == other
-
-
-def fall_counts(web):
-    """How many falls a web has: those without a tie, and those of the web in which its places are drawn together."""
-    def count(many, ties):
-        if not ties:
-            return 1
-        a, b = ties[0]
-        pairs = {tuple(sorted(a if place == b else place for place in tie)) for tie in ties[1:]}
-        return count(many, ties[1:]) + count(many, tuple(sorted(pair for pair in pairs if pair[0] != pair[1])))
-
-    return count(*web)
 
 
 class Turned(unittest.TestCase):
@@ -313,8 +301,8 @@ class AllFalls(unittest.TestCase):
         self.assertIs(caught.exception.__class__, TooMany)
 
     def test_too_many(self):
-        self.assertEqual(fall_counts(JUST_FEW), 294)
-        self.assertEqual(fall_counts(JUST_MANY), 304)
+        self.assertEqual(slow_fall_count(JUST_FEW), 294)
+        self.assertEqual(slow_fall_count(JUST_MANY), 304)
         self.assertEqual(len(slow_falls(JUST_MANY)), 304)
         for web in [JUST_MANY, NINE_RING, SPINDLE, NINETEEN, TWENTY, TWENTY_MIXED]:
             self.refused(web)
@@ -322,12 +310,12 @@ class AllFalls(unittest.TestCase):
     def test_refused_just_above_300(self):
         told, refused = 0, 0
         for web in NAMED_WEBS + mixed_webs(200, 68):
-            if fall_counts(web) > 300:
+            if slow_fall_count(web) > 300:
                 self.refused(web)
                 refused += 1
                 continue
             falls = all_falls(web)
-            self.assertEqual(len(falls), fall_counts(web), web)
+            self.assertEqual(len(falls), slow_fall_count(web), web)
             self.assertEqual(falls, sorted(set(falls)), web)
             self.assertTrue(all(is_fall(web, fall) for fall in falls), web)
             told += 1
